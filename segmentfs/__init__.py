@@ -1,0 +1,1 @@
+"""Segmentfs: a log-structured file system that survives any power cut."""

@@ -1,0 +1,1 @@
+"""Part 2: the device."""

@@ -1,0 +1,1 @@
+"""Part 3: images."""

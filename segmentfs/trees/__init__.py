@@ -1,0 +1,1 @@
+"""Part 7: trees and files."""
