@@ -34,6 +34,16 @@ def move_block(sequence, addresses=()):
     return (MOVE, sequence, 0, tuple(addresses))
 
 
+def shown(device):
+    """Return what is read at all addresses."""
+    return [device.read(address) for address in range(device.layout.device_blocks)]
+
+
+def table_of(layout, addresses):
+    """Return a table with the addresses of a dict."""
+    return [addresses.get(ident, 0) for ident in range(layout.last_id + 1)]
+
+
 def run_example(test, text):
     """Run an example of the document: what follows a call is its value, or the error that it raises."""
     names = {}

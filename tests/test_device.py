@@ -4,7 +4,7 @@ import itertools
 import random
 import unittest
 
-from helpers import GREATEST, LAYOUTS, LEAST, MIDDLE, part, run_example
+from helpers import GREATEST, LAYOUTS, LEAST, MIDDLE, part, run_example, shown
 from segmentfs.device.device import Device
 
 EXAMPLE = """
@@ -33,11 +33,6 @@ True
 
 def block(number):
     return part(LEAST, number)
-
-
-def shown(device):
-    """Return what is read at all addresses."""
-    return [device.read(address) for address in range(device.layout.device_blocks)]
 
 
 class Expected:

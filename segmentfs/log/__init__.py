@@ -1,0 +1,1 @@
+"""Parts 4 and 5: the log and its tables."""

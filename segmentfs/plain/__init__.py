@@ -1,0 +1,1 @@
+"""Part 13: plain volumes, and plain lists of octets."""
