@@ -1,7 +1,9 @@
 """What several test files need: layouts, blocks, and a runner for the document's examples."""
 
-from segmentfs.device.block import COMMIT, DATA, MOVE, NODE, PART
-from segmentfs.geometry.layout import Layout
+from segmentfs.device.block import COMMIT, DATA, MOVE, NODE, PART, stamped
+from segmentfs.device.device import Device
+from segmentfs.geometry.layout import Layout, address_at
+from segmentfs.log.logs import Log
 
 LEAST = Layout(4, 16, 64)
 MIDDLE = Layout(7, 19, 128)
@@ -42,6 +44,41 @@ def shown(device):
 def table_of(layout, addresses):
     """Return a table with the addresses of a dict."""
     return [addresses.get(ident, 0) for ident in range(layout.last_id + 1)]
+
+
+def known(log):
+    """Return what a log knows, apart from the device and the counts."""
+    slots = [None if slot is None else list(slot) for slot in log.slots]
+    return (list(log.present), slots, log.head, log.place, list(log.queue), log.last_sequence, log.region)
+
+
+def whole_state(log):
+    """Return all that a call on a log can change."""
+    return (known(log), log.counts.as_row(), shown(log.device), log.device.pending())
+
+
+def live_log(layout, lives, *, sequences=None, head=0, place=None, queue=()):
+    """Return a log whose segments have so many live blocks, at the places from 1 on.
+
+    `sequences` tells the sequence number of the blocks of each segment. The ids follow the addresses.
+    The place is the end of the segment of the head, unless another one is told.
+    """
+    log = Log(Device(layout))
+    if sequences is None:
+        sequences = [5] * layout.segments
+    ident = 0
+    for segment, live in enumerate(lives):
+        for at in range(1, live + 1):
+            ident += 1
+            address = address_at(layout, segment, at)
+            log.device.write(address, stamped(data(layout, ident % 256), sequences[segment], at))
+            log.present[ident] = address
+    log.device.barrier()
+    log.head = head
+    log.place = layout.segment_blocks if place is None else place
+    log.queue = list(queue)
+    log.last_sequence = max(sequences)
+    return log
 
 
 def run_example(test, text):

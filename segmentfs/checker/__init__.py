@@ -1,0 +1,1 @@
+"""Part 11: the checker."""

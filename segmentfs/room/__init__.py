@@ -1,0 +1,1 @@
+"""Parts 5 and 6: need and the cleaner."""
