@@ -206,7 +206,7 @@ class LanguageTest(unittest.TestCase):
                 place = f"{path}:{token.start[0]}"
                 if token.type == tokenize.STRING:
                     self.assertNotIn(chr(37), token.string, place)
-                    self.assertNotRegex(token.string, r"\\[^nt\\'\"]", place)
+                    self.assertNotRegex(token.string, r"(?<!\\)(\\\\)*\\[^nt\\'\"]", place)
                 if token.type == tokenize.NAME:
                     self.assertNotIn(token.string, BARRED_WORDS, place)
                 self.assertNotIn("_wall", token.string, place)

@@ -3,9 +3,8 @@
 from segmentfs.device.block import NODE
 from segmentfs.geometry.layout import place_of, segment_of
 from segmentfs.log.logs import live_addresses, payload_at
+from segmentfs.nodes.superblock import SUPERBLOCK_ID
 from segmentfs.room.segments import live_counts
-
-SUPERBLOCK_ID = 1
 
 
 def table_fault(log):

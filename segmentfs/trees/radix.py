@@ -76,7 +76,7 @@ def walk_tree(store, file):
         ident, level, first = waiting.pop()
         yield (ident, level, first)
         if level > 0:
-            waiting.extend(_children(store, ident, level, first)[::-1])
+            waiting.extend(children_of(store.layout, store.get(ident)[1], level, first)[::-1])
 
 
 def least_number_from(store, file, number):
@@ -90,14 +90,13 @@ def least_number_from(store, file, number):
             continue
         if level == 0:
             return first
-        waiting.extend(_children(store, ident, level, first)[::-1])
+        waiting.extend(children_of(store.layout, store.get(ident)[1], level, first)[::-1])
     return None
 
 
-def _children(store, ident, level, first):
-    """Return the id, the level and the least number of each block that an index block leads to."""
-    span = span_of(store.layout, level - 1)
-    items = store.get(ident)[1]
+def children_of(layout, items, level, first):
+    """Return the id, the level and the least number of each block that the items of an index block lead to."""
+    span = span_of(layout, level - 1)
     return [(item, level - 1, first + place * span) for place, item in enumerate(items) if item != 0]
 
 

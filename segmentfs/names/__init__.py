@@ -1,0 +1,1 @@
+"""Part 9: names and open files."""

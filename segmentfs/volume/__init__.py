@@ -1,0 +1,1 @@
+"""Part 10: volumes."""
