@@ -8,10 +8,10 @@ from segmentfs.checker.files import files_fault
 from segmentfs.errors import FileTooLarge
 from segmentfs.names.handles import Handles
 from segmentfs.nodes.inodes import FILE, Inode
-from segmentfs.nodes.nodes import new_nodes
+from segmentfs.nodes.nodes import new_nodes, write_node
 from segmentfs.trees.files import PlainFile, file_ids, punch_file, read_file, truncate_file, write_file
 from segmentfs.trees.store import Store
-from segmentfs.volume.files import punch_node, reserved_blocks, truncate_node, write_node, write_pieces
+from segmentfs.volume.files import punch_node, reserved_blocks, truncate_node, write_pieces
 
 
 class WritePiecesTest(unittest.TestCase):

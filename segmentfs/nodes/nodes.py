@@ -78,6 +78,13 @@ def new_nodes(layout):
     return nodes
 
 
+def write_node(nodes, number, at, octets):
+    """Write octets of a node from an offset on."""
+    inode = nodes.get(number)
+    write_file(nodes.store, inode, at=at, octets=octets)
+    nodes.put(number, inode)
+
+
 def drop_node(nodes, number):
     """Take the blocks of a node away, then its inode."""
     release_file(nodes.store, nodes.get(number))

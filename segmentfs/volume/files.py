@@ -1,6 +1,6 @@
 """What a volume does with the octets of its files."""
 
-from segmentfs.trees.files import file_ids, punch_file, truncate_file, write_file
+from segmentfs.trees.files import file_ids, punch_file, truncate_file
 
 
 def write_pieces(layout, at, octets):
@@ -13,13 +13,6 @@ def write_pieces(layout, at, octets):
         found.append((offset, octets[start:start + most]))
         start += most
     return found
-
-
-def write_node(nodes, number, at, octets):
-    """Write octets of a node from an offset on."""
-    inode = nodes.get(number)
-    write_file(nodes.store, inode, at=at, octets=octets)
-    nodes.put(number, inode)
 
 
 def truncate_node(nodes, number, size):

@@ -1,0 +1,1 @@
+"""Part 12: differences."""
