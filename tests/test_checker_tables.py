@@ -9,7 +9,7 @@ from segmentfs.checker.tables import block_fault, table_fault
 from segmentfs.device.block import stamped
 from segmentfs.device.device import Device
 from segmentfs.geometry.layout import address_at
-from segmentfs.log.logs import Log, append_commit
+from segmentfs.log.logs import append_commit
 from segmentfs.log.recovery import mount_log, new_log, recover
 
 

@@ -145,9 +145,9 @@ class LinksTest(unittest.TestCase):
         tree = self.tree(("/l", "d"), ("/d/m", "/d/e"))
         self.check(tree, (
             ("/l", (1, "l", 5), (1, "d", 2)), ("/l/", (1, "d", 2), (1, "d", 2)), ("/l/e", (2, "e", 3), (2, "e", 3)),
-            ("/l/m", (2, "m", 6), (2, "e", 3)), ("/l/m/", (2, "e", 3), (2, "e", 3)), ("/l/.", (2, None, 2), (2, None, 2)),
-            ("/l/m/..", (2, None, 2), (2, None, 2)), ("/l/..", (1, None, 1), (1, None, 1)),
-            ("/l/m/x", (3, "x", 0), (3, "x", 0))))
+            ("/l/m", (2, "m", 6), (2, "e", 3)), ("/l/m/", (2, "e", 3), (2, "e", 3)),
+            ("/l/.", (2, None, 2), (2, None, 2)), ("/l/m/..", (2, None, 2), (2, None, 2)),
+            ("/l/..", (1, None, 1), (1, None, 1)), ("/l/m/x", (3, "x", 0), (3, "x", 0))))
 
     def test_link_to_a_file(self):
         tree = self.tree(("/l", "d/f"))

@@ -60,12 +60,11 @@ def unlink(nodes, text, opened):
     """Remove a name of a file or of a symbolic link."""
     path = read_path(text)
     way = follow(nodes, path, follow_last=False)
-    if way.at_directory:
-        raise IsDirectory("the path leads to a directory")
     if way.at_free:
         raise NotFound(f"there is no {way.name}")
+    # A way that ends at a directory itself has the number of this directory.
     if nodes.get(way.number).is_directory:
-        raise IsDirectory(f"{way.name} is a directory")
+        raise IsDirectory("the path leads to a directory")
     if path.closed:
         raise NotDirectory(f"{way.name} is no directory")
     remove_entry(nodes, way.directory, way.name)

@@ -20,10 +20,14 @@ class Handles:
     def __init__(self):
         self.files = [None] * HANDLES
 
-    def acquire(self, number, access):
-        """Give the least free handle to a file."""
+    def check_free(self):
+        """Raise an error if no handle is free."""
         if None not in self.files:
             raise TooManyOpen("no handle is free")
+
+    def acquire(self, number, access):
+        """Give the least free handle to a file."""
+        self.check_free()
         handle = self.files.index(None)
         self.files[handle] = OpenFile(number, access)
         return handle

@@ -1,6 +1,7 @@
 """Plain trees of nodes: what directories, files and links mean, without ids and blocks on a device."""
 
 from segmentfs.geometry.layout import parts_of
+from segmentfs.names.questions import Info
 from segmentfs.nodes.directories import ENTRY_OCTETS
 from segmentfs.nodes.inodes import INODE_OCTETS
 from segmentfs.nodes.nodes import ROOT_NUMBER
@@ -81,6 +82,11 @@ class PlainTree:
         if node.kind == "file":
             return blocks_by_numbers(self.layout, list(node.blocks))
         return blocks_by_numbers(self.layout, list(range(parts_of(node.size, self.layout.block_size))))
+
+    def info(self, number):
+        """Return the information about a node."""
+        node = self._nodes[number]
+        return Info(number, node.kind, node.links, node.size, self.block_total(number))
 
     def used(self):
         """Return the number of blocks in use."""
