@@ -9,7 +9,8 @@ class InvalidImage(SegmentError):
     """An image or a device holds no sound volume."""
 
     def __init__(self, part, fault, number):
-        super().__init__(f"{part}: {fault} ({number})")
+        # The text leaves the number out: Python writes no integer of more than 4300 digits.
+        super().__init__(f"{part}: {fault}")
         self.part = part
         self.fault = fault
         self.number = number

@@ -9,6 +9,8 @@ LEAST = Layout(4, 16, 64)
 MIDDLE = Layout(7, 19, 128)
 GREATEST = Layout(16, 32, 256)
 LAYOUTS = (LEAST, MIDDLE, GREATEST)
+# Python writes no integer of more than 4300 digits as a text, so no text of an error may tell it.
+GREAT = 10 ** 5000
 
 
 def data(layout, fill):

@@ -2,6 +2,7 @@
 
 import unittest
 
+from helpers import GREAT
 from segmentfs import errors
 from segmentfs.errors import InvalidImage, SegmentError
 
@@ -41,6 +42,11 @@ class ErrorsTest(unittest.TestCase):
     def test_invalid_image_has_three_fields(self):
         error = InvalidImage("log", "no whole checkpoint", 7)
         self.assertEqual((error.part, error.fault, error.number), ("log", "no whole checkpoint", 7))
+
+    def test_invalid_image_with_a_great_number(self):
+        error = InvalidImage("present", "octets behind the end", GREAT)
+        self.assertEqual((error.part, error.fault), ("present", "octets behind the end"))
+        self.assertTrue(error.number == GREAT)
 
     def test_invalid_image_is_raised_and_caught_with_its_fields(self):
         with self.assertRaises(SegmentError) as caught:

@@ -3,6 +3,7 @@
 import random
 import unittest
 
+from helpers import GREAT
 from segmentfs.errors import BadHandle, SegmentError, TooManyOpen
 from segmentfs.names.handles import HANDLES, Handles, OpenFile
 
@@ -94,6 +95,12 @@ class GetTest(unittest.TestCase):
         for handle in (-1, -2, -16, -17, 16, 17, 65535):
             self.check_bad(all_taken(), handle)
             self.check_bad(Handles(), handle)
+
+    def test_great_handles(self):
+        for great in (2 ** 63, 10 ** 4299, 10 ** 4300, GREAT):
+            for handle in (great, -great):
+                self.check_bad(all_taken(), handle)
+                self.check_bad(Handles(), handle)
 
     def test_free_handles(self):
         handles = all_taken()

@@ -3,7 +3,7 @@
 import random
 import unittest
 
-from helpers import LAYOUTS, LEAST, MIDDLE, FileModel, run_example
+from helpers import GREAT, LAYOUTS, LEAST, MIDDLE, FileModel, run_example
 from segmentfs import errors
 from segmentfs.geometry.layout import Layout
 from segmentfs.plain.files import (
@@ -195,6 +195,17 @@ class FilesTest(PlainCase):
             for number in (-1, 1, 16):
                 self.refused(errors.BadHandle, call, number, *args)
         self.refused(errors.OutOfRange, volume.open_file, "/none", access="all")
+
+    def test_bad_handles(self):
+        volume = PlainVolume(LEAST)
+        volume.create("/a")
+        before = self.state(volume)
+        for number in (-1, 1, 16, 100, GREAT, -GREAT):
+            for call, *args in ((volume.close,), (volume.fstat,), (volume.read, 0, 1), (volume.write, 0, [1]),
+                                (volume.truncate, 0), (volume.punch, 0, 1), (volume.next_data, 0),
+                                (volume.next_hole, 0), (volume.reserve, 1)):
+                self.refused(errors.BadHandle, call, number, *args)
+        self.assertEqual(self.state(volume), before)
 
     def test_access(self):
         volume = PlainVolume(LEAST)

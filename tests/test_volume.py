@@ -2,7 +2,7 @@
 
 import unittest
 
-from helpers import LAYOUTS, LEAST, MIDDLE, run_example, shown
+from helpers import GREAT, LAYOUTS, LEAST, MIDDLE, run_example, shown
 from segmentfs import errors
 from segmentfs.checker.check import check
 from segmentfs.device.block import PART
@@ -17,7 +17,7 @@ from segmentfs.volume.volume import Volume, mount, new_device
 from test_changes import UNREADABLE
 from volumepair import FIELDS, fields
 
-BAD_HANDLES = (-1, 16, 5, 100)
+BAD_HANDLES = (-1, 16, 5, 100, GREAT, -GREAT)
 
 
 def new_volume(layout=LEAST):
@@ -413,6 +413,18 @@ class RangesTest(VolumeCase):
         self.refused(errors.OutOfRange, volume.write, handle, large, [1])
         self.refused(errors.BadHandle, volume.write, 5, large, [1])
         self.refused(errors.NoRoom, volume.reserve, handle, 60000)
+
+    def test_great_numbers(self):
+        volume = new_volume()
+        handle = volume.create("/a")
+        volume.snapshot("s")
+        for call, *args in ((volume.read, GREAT, 1), (volume.read, 0, GREAT), (volume.write, GREAT, [1]),
+                            (volume.truncate, GREAT), (volume.punch, GREAT, 1), (volume.punch, 1, GREAT),
+                            (volume.next_data, GREAT), (volume.next_hole, GREAT), (volume.reserve, GREAT)):
+            self.refused(errors.OutOfRange, call, handle, *args)
+        self.refused(errors.OutOfRange, volume.read_in, "s", "/a", GREAT, 1)
+        self.refused(errors.OutOfRange, volume.read_in, "s", "/a", 0, GREAT)
+        self.refused(errors.OutOfRange, volume.clean, passes=GREAT)
 
     def test_bad_handles(self):
         volume = new_volume()

@@ -35,21 +35,22 @@ class Handles:
     def get(self, handle):
         """Return the open file of a handle."""
         if not 0 <= handle < HANDLES or self.files[handle] is None:
-            raise BadHandle(f"no file is open as {handle}")
+            # The text leaves the handle out: Python writes no integer of more than 4300 digits.
+            raise BadHandle("no file is open with this handle")
         return self.files[handle]
 
     def reading(self, handle):
         """Return the open file of a handle that allows reading."""
         opened = self.get(handle)
         if opened.access == "write":
-            raise BadHandle(f"{handle} is open for writing alone")
+            raise BadHandle("the handle is open for writing alone")
         return opened
 
     def writing(self, handle):
         """Return the open file of a handle that allows writing."""
         opened = self.get(handle)
         if opened.access == "read":
-            raise BadHandle(f"{handle} is open for reading alone")
+            raise BadHandle("the handle is open for reading alone")
         return opened
 
     def free(self, handle):
